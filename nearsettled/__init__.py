@@ -1,0 +1,1 @@
+"""Books of tables for which looking nearby settles every puzzle."""

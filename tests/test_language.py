@@ -1,0 +1,125 @@
+"""The rules of ../shared/LANGUAGE.md that are plain to check: files, imports, sizes, names, words.
+
+The other rules are left to the reader of the code.
+"""
+
+import ast
+import builtins
+import importlib
+import os
+import re
+import unittest
+
+PACKAGE = os.path.join(os.path.dirname(__file__), "..", "nearsettled")
+BUILTINS = """len range enumerate zip min max sum abs sorted reversed int str bool bytes list tuple dict set frozenset
+isinstance ord repr any all divmod pow getattr hasattr setattr super property staticmethod classmethod iter next object
+type Exception ValueError TypeError KeyError IndexError LookupError ZeroDivisionError ArithmeticError OverflowError
+RuntimeError NotImplementedError AttributeError StopIteration NotImplemented""".split()
+LIBRARY = {
+    "heapq": "heappush heappop heapify heapreplace heappushpop", "math": "gcd lcm isqrt comb perm factorial",
+    "itertools": "product combinations permutations chain accumulate pairwise islice zip_longest",
+    "collections": "defaultdict deque",
+}
+METHODS = """__init__ __eq__ __repr__ __str__ __len__ __enter__ __exit__ __call__ __iter__ __lt__ __le__ __gt__ __ge__
+__ne__ __add__ __sub__ __mul__ __floordiv__ __mod__ __and__ __or__ __xor__ __neg__ __bool__ __contains__ __getitem__
+__setitem__""".split()
+BARRED = """mro elements open input law version_info with_traceback add_note typing enum Generic Protocol ABC namedtuple
+NamedTuple TypedDict abstractmethod eval exec globals locals vars compile""".split()
+
+
+def files():
+    """The paths of all files of the package, with their texts."""
+    found = {}
+    for folder, folders, names in os.walk(PACKAGE):
+        folders[:] = [name for name in folders if name != "__pycache__"]
+        for name in names:
+            path = os.path.join(folder, name)
+            with open(path, encoding="ascii", newline="") as file:
+                found[path] = file.read()
+    return found
+
+
+def is_plain(node):
+    """Whether an expression at module level is written out: literals, and lists, tuples, dicts of them."""
+    return not any(isinstance(part, (ast.Call, ast.Lambda, ast.ListComp, ast.Set)) for part in ast.walk(node))
+
+
+class LanguageTest(unittest.TestCase):
+    def setUp(self):
+        self.texts = files()
+        self.trees = {path: ast.parse(text) for path, text in self.texts.items()}
+
+    def nodes(self, *kinds):
+        for path, tree in self.trees.items():
+            for node in ast.walk(tree):
+                if isinstance(node, kinds):
+                    yield path, node
+
+    def test_files_and_characters(self):
+        for path, text in self.texts.items():
+            self.assertRegex(os.path.basename(path), r"\A[a-z0-9_]+\.py\Z")
+            self.assertRegex(text, r"\A[ -~\n]*\Z")
+
+    def test_sizes(self):
+        for path, text in self.texts.items():
+            self.assertLessEqual(text.count("\n"), 399, path)
+            self.assertLessEqual(max(map(len, text.split("\n"))), 120, path)
+        for path, node in self.nodes(ast.FunctionDef):
+            self.assertLessEqual(node.end_lineno - node.lineno + 1, 40, (path, node.name))
+
+    def test_imports(self):
+        for path, node in self.nodes(ast.Import, ast.ImportFrom):
+            self.assertIsInstance(node, ast.ImportFrom, path)
+            self.assertEqual(node.level, 0, path)
+            for name in [part.name for part in node.names]:
+                if node.module in LIBRARY:
+                    self.assertIn(name, LIBRARY[node.module].split())
+                else:
+                    self.assertTrue(node.module.startswith("nearsettled."), (path, node.module))
+                    made = getattr(importlib.import_module(node.module), name)
+                    self.assertEqual(getattr(made, "__module__", node.module), node.module, (path, name))
+
+    def test_module_level(self):
+        for path, tree in self.trees.items():
+            bound = []
+            for node in tree.body:
+                if isinstance(node, ast.Assign):
+                    self.assertTrue(is_plain(node.value), (path, node.lineno))
+                    bound += [target.id for target in node.targets]
+                elif isinstance(node, (ast.FunctionDef, ast.ClassDef)):
+                    bound.append(node.name)
+                elif isinstance(node, ast.ImportFrom):
+                    bound += [part.asname or part.name for part in node.names]
+                else:
+                    self.assertIsInstance(node, ast.Expr, (path, node.lineno))
+                    self.assertIsInstance(node.value, ast.Constant, (path, node.lineno))
+            self.assertEqual(len(bound), len(set(bound)), path)
+
+    def test_builtins_and_words(self):
+        for path, node in self.nodes(ast.Name):
+            if hasattr(builtins, node.id):
+                self.assertIn(node.id, BUILTINS, (path, node.lineno))
+                self.assertIsInstance(node.ctx, ast.Load, (path, node.lineno))
+            self.assertNotIn(node.id, BARRED, (path, node.lineno))
+        for path, node in self.nodes(ast.arg):
+            self.assertFalse(hasattr(builtins, node.arg), (path, node.lineno))
+
+    def test_statements_and_values(self):
+        barred = (ast.AsyncFunctionDef, ast.Global, ast.TryStar, ast.Await, ast.Div)
+        self.assertEqual([(path, node) for path, node in self.nodes(*barred)], [])
+        for path, node in self.nodes(ast.Constant):
+            self.assertNotIsInstance(node.value, (float, complex), (path, node.lineno))
+
+    def test_names(self):
+        for path, node in self.nodes(ast.FunctionDef):
+            if node.name not in METHODS:
+                self.assertRegex(node.name, r"\A_?[A-Za-z][A-Za-z0-9_]*\Z", path)
+            for decorator in node.decorator_list:
+                self.assertIn(re.sub(r".*\.", "", ast.unparse(decorator)),
+                              ["property", "setter", "staticmethod", "classmethod"])
+        for path, node in self.nodes(ast.Attribute):
+            self.assertNotIn(node.attr, ["mro", "elements", "open", "input", "law", "format", "sort"], path)
+
+
+if __name__ == "__main__":
+    unittest.main()
