@@ -21,6 +21,34 @@ raises BadRow(number=1)
 >>> least = Operation(2, 2, [0, 0, 0, 1])
 >>> [least((1, 0)), breaks(least, Table(2, 2, [(0, 0), (0, 1), (1, 1)])), least.agrees(), Operation.taking(2, 3, 1)((0, 1, 0))]
 [0, None, False, 1]
+
+>>> from nearsettled.puzzles import answers, Book, first_broken, Puzzle, shows_none, solved
+>>> from nearsettled.tables import Table
+>>> book = Book(2, [Table(2, 2, [(0, 1), (1, 0)])])
+>>> ring = Puzzle(book, 3, [(0, (0, 1)), (0, (1, 2)), (0, (2, 0))])
+>>> tree = ('split', 0, [('broken', 0), ('broken', 0)])
+>>> [list(answers(ring.part([0, 1]))), first_broken(ring, (0, 1, 0)), solved(ring)[0], shows_none(Puzzle(book, 1, [(0, (0, 0))]), (), tree)]
+[[(0, 1, 0), (1, 0, 1)], 2, 'no', True]
+
+>>> from nearsettled.leans import lean
+>>> from nearsettled.puzzles import Book, Puzzle
+>>> from nearsettled.tables import Table
+>>> lean(Puzzle(Book(2, [Table(2, 2, [(0, 1), (1, 0)])]), 2, [(0, (0, 1)), (0, (0, 0))]))[0]
+[1]
+
+>>> from nearsettled.leans import lean
+>>> from nearsettled.puzzles import Book, Puzzle
+>>> from nearsettled.tables import Table
+>>> lean(Puzzle(Book(2, [Table.only(2, 1)]), 1, [(0, (0,))]))
+raises HasAnswer(answer=(1,))
+
+>>> from nearsettled.places import emptied, kept_values
+>>> from nearsettled.puzzles import Book, Puzzle
+>>> from nearsettled.tables import Table
+>>> book = Book(2, [Table(2, 2, [(0, 0), (0, 1), (1, 1)]), Table.only(2, 0), Table(2, 2, [(0, 1), (1, 0)])])
+>>> puzzle = Puzzle(book, 2, [(0, (0, 1)), (1, (1,))])
+>>> [kept_values(puzzle), kept_values(puzzle.part([0]), choice=((0, 1),)), emptied(Puzzle(book, 1, [(2, (0, 0))]))]
+[[(0,), (0,)], [(1,), (1,)], ('no', [(0, 1)])]
 """
 
 

@@ -4,7 +4,8 @@ import importlib
 import inspect
 import unittest
 
-# A property has no list of arguments, a static method none for its own object.
+# A property has no list of arguments, a static method none for its own object. A star stands before an argument that
+# is passed by name alone.
 INTERFACE = {
     "nearsettled.tables": {
         "Table": {
@@ -23,8 +24,42 @@ INTERFACE = {
         },
         "breaks": ["operation", "table"],
     },
+    "nearsettled.puzzles": {
+        "Book": {
+            "__init__": ["self", "width", "tables"], "tables": property, "__len__": ["self"], "__getitem__": None,
+            "__eq__": None, "added": ["self", "table"], "given": ["self"], "without": ["self", "numbers"],
+            "renamed": ["self", "order"],
+        },
+        "Puzzle": {
+            "__init__": ["self", "book", "places", "rows"], "rows": property, "__len__": ["self"], "__eq__": None,
+            "added": ["self", "table", "spots"], "part": ["self", "numbers"],
+        },
+        "first_broken": ["puzzle", "answer"],
+        "is_choice": ["puzzle", "value"],
+        "answers": ["puzzle", "*choice"],
+        "solved": ["puzzle", "*choice"],
+        "shows_none": ["puzzle", "choice", "value"],
+    },
+    "nearsettled.leans": {
+        "lean": ["puzzle", "*choice"],
+        "shows_lean": ["puzzle", "choice", "value"],
+    },
+    "nearsettled.places": {
+        "kept_values": ["puzzle", "*choice"],
+        "strikes": ["puzzle", "*choice"],
+        "emptied": ["puzzle", "*choice"],
+        "shows_strikes": ["puzzle", "value", "*choice"],
+        "shows_emptied": ["puzzle", "value", "*choice"],
+        "shows_sets": ["puzzle", "value"],
+    },
 }
 STATIC = ["full", "equal", "only", "taking", "by"]
+
+
+def arguments_of(made):
+    """The names of the arguments of a function."""
+    found = inspect.signature(made).parameters.values()
+    return [("*" if part.kind is part.KEYWORD_ONLY else "") + part.name for part in found]
 
 
 class InterfaceTest(unittest.TestCase):
@@ -34,7 +69,7 @@ class InterfaceTest(unittest.TestCase):
         if wanted is property:
             self.assertIsInstance(vars(made)[name], property)
         elif wanted is not None:
-            self.assertEqual(list(inspect.signature(getattr(made, name)).parameters), wanted)
+            self.assertEqual(arguments_of(getattr(made, name)), wanted)
 
     def test_names_and_arguments(self):
         for place, names in INTERFACE.items():
@@ -47,7 +82,14 @@ class InterfaceTest(unittest.TestCase):
                         for method, arguments in wanted.items():
                             self.check_method(made, method, arguments)
                     else:
-                        self.assertEqual(list(inspect.signature(made).parameters), wanted)
+                        self.assertEqual(arguments_of(made), wanted)
+
+    def test_arguments_by_name_alone_may_be_left_out(self):
+        for place, names in INTERFACE.items():
+            for name, wanted in names.items():
+                if "*choice" in wanted:
+                    made = getattr(importlib.import_module(place), name)
+                    self.assertEqual(inspect.signature(made).parameters["choice"].default, ())
 
 
 if __name__ == "__main__":

@@ -110,6 +110,39 @@ class LanguageTest(unittest.TestCase):
         for path, node in self.nodes(ast.Constant):
             self.assertNotIsInstance(node.value, (float, complex), (path, node.lineno))
 
+    def test_iterated_at_once(self):
+        takers = "list tuple dict sorted sum any all enumerate zip min max len".split()
+        for path, tree in self.trees.items():
+            right = []
+            for node in ast.walk(tree):
+                if isinstance(node, (ast.For, ast.comprehension)):
+                    right.append(node.iter)
+                elif isinstance(node, ast.Call) and isinstance(node.func, ast.Name) and node.func.id in takers:
+                    right += node.args
+            for node in ast.walk(tree):
+                name = node.func if isinstance(node, ast.Call) else None
+                if (isinstance(name, ast.Name) and name.id in "range zip enumerate reversed map".split()
+                        or isinstance(name, ast.Attribute) and name.attr in "items keys values".split()):
+                    self.assertIn(node, right, (path, node.lineno))
+
+    def test_what_getitem_asks_for(self):
+        for path, text in self.texts.items():
+            for word in ("(type)", "Meta", "metaclass="):
+                self.assertNotIn(word, text, path)
+        for path, node in self.nodes(ast.ClassDef):
+            names = [part.name for part in node.body if isinstance(part, ast.FunctionDef)]
+            if "__getitem__" in names:
+                self.assertIn("__iter__", names, path)
+            self.assertNotIn("keys", names, path)
+
+    def test_annotations_signs_and_strings(self):
+        for path, node in self.nodes(ast.arg):
+            self.assertIsNone(node.annotation, (path, node.lineno))
+        self.assertEqual([path for path, _ in self.nodes(ast.Invert, ast.GeneratorExp, ast.NamedExpr)], [])
+        for path, node in self.nodes(ast.Constant):
+            if isinstance(node.value, str):
+                self.assertNotIn("%", node.value, (path, node.lineno))
+
     def test_names(self):
         for path, node in self.nodes(ast.FunctionDef):
             if node.name not in METHODS:
