@@ -1,6 +1,6 @@
 """What several files ask of values of any kind that are handed in."""
 
-from nearsettled.errors import BadArity, BadOrder, BadWidth
+from nearsettled.errors import BadArity, BadNear, BadOrder, BadWidth
 
 GREATEST_WIDTH = 3
 
@@ -21,6 +21,20 @@ def is_row(value, width, length):
     return isinstance(value, tuple) and len(value) == length and all([is_below(part, width) for part in value])
 
 
+def is_set(value, width):
+    """Whether a value, of any value, is a set: an ascending tuple of one or more values, each once."""
+    if not isinstance(value, tuple) or value == () or not is_row(value, width, len(value)):
+        return False
+    return list(value) == sorted(set(value))
+
+
+def are_numbers(value, limit):
+    """Whether a value, of any value, is an ascending list of numbers below a limit, each once."""
+    if not isinstance(value, list) or not all([is_below(number, limit) for number in value]):
+        return False
+    return value == sorted(set(value))
+
+
 def check_width(width):
     """Raise BadWidth() if width, of any value, is none."""
     if not is_between(width, 1, GREATEST_WIDTH):
@@ -37,3 +51,10 @@ def check_order(order, width):
     """Raise BadOrder() if order, of any value, is no list of all values of a width, each once."""
     if not isinstance(order, list) or not is_row(tuple(order), width, width) or len(set(order)) < width:
         raise BadOrder()
+
+
+def check_near(near, width, least):
+    """Raise BadNear() if near, of any value, is no number of places to look at, from the least on, for a width."""
+    greatest = 2 if width == GREATEST_WIDTH else 3
+    if not is_between(near, least, greatest):
+        raise BadNear()

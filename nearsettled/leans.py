@@ -1,6 +1,6 @@
 """Lean parts: rows that leave no answer, though all of them but any one do."""
 
-from nearsettled.checks import is_below, is_row
+from nearsettled.checks import are_numbers, is_row
 from nearsettled.errors import BadChoice, HasAnswer
 from nearsettled.puzzles import breaks_row, is_choice, shows_none, solved
 from nearsettled.trees import renumbered, rows_named
@@ -60,7 +60,7 @@ def shows_lean(puzzle, choice, value):
     if not isinstance(value, tuple) or len(value) != 3:
         return False
     numbers, tree, told = value
-    if not _are_numbers(numbers, len(puzzle)) or not isinstance(told, list) or len(told) != len(numbers):
+    if not are_numbers(numbers, len(puzzle)) or not isinstance(told, list) or len(told) != len(numbers):
         return False
     part = puzzle.part(numbers)
     if not shows_none(part, choice, tree):
@@ -69,13 +69,6 @@ def shows_lean(puzzle, choice, value):
         if not _goes_without(part, choice, at, answer):
             return False
     return True
-
-
-def _are_numbers(value, limit):
-    """Whether a value, of any value, is an ascending list of numbers below a limit, each once."""
-    if not isinstance(value, list) or not all([is_below(number, limit) for number in value]):
-        return False
-    return value == sorted(set(value))
 
 
 def _goes_without(puzzle, choice, number, value):

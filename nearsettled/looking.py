@@ -30,22 +30,33 @@ def start(puzzle, choice):
 
 
 class Net:
-    """The rows of a puzzle, ready for looking at places again and again.
+    """The rows of a puzzle, ready for looking at places again and again. Rows may be put and taken away.
 
-    uses: the rows of the puzzle; table_rows: for each table of the book its rows; uses_at: for each place the numbers
-    of the rows of the puzzle in which it stands.
+    uses: by their numbers the rows of the puzzle; table_rows: for each table of the book its rows; uses_at: for each
+    place, as the keys of a dict, the numbers of the rows of the puzzle in which it stands.
     """
 
     def __init__(self, puzzle):
         self.width = puzzle.book.width
-        self.uses = puzzle.rows
+        self.uses = {}
         self.table_rows = [table.rows for table in puzzle.book.tables]
-        self.uses_at = [[] for _ in range(puzzle.places)]
-        for number, (_, spots) in enumerate(self.uses):
-            for place in sorted(set(spots)):
-                self.uses_at[place].append(number)
+        self.uses_at = [{} for _ in range(puzzle.places)]
         # By table: the bits with a partner row, by the bits that are kept at each position.
         self._partners = [{} for _ in self.table_rows]
+        for number, row in enumerate(puzzle.rows):
+            self.put(number, row)
+
+    def put(self, number, row):
+        """Put a row (table, spots) with a number that no other row has."""
+        self.uses[number] = row
+        for place in row[1]:
+            self.uses_at[place][number] = True
+
+    def take(self, number):
+        """Take the row with a number away."""
+        for place in sorted(set(self.uses[number][1])):
+            del self.uses_at[place][number]
+        del self.uses[number]
 
     def strike(self, kept, numbers, *, stop=False):
         """Strike values, beginning at the rows with these numbers; list the strikes in order.

@@ -1,6 +1,6 @@
 """Looking at places: which values are kept, and the strikes that take away the others."""
 
-from nearsettled.checks import is_below
+from nearsettled.checks import is_below, is_set
 from nearsettled.errors import BadChoice
 from nearsettled.looking import Net, bits_of, bits_with_partners, start, values_of
 from nearsettled.puzzles import is_choice
@@ -83,18 +83,11 @@ def shows_emptied(puzzle, value, *, choice=()):
     return kept is not None and 0 in kept
 
 
-def _is_set(value, width):
-    """Whether a value, of any value, is an ascending tuple of one or more values, each once."""
-    if not isinstance(value, tuple) or value == () or not all([is_below(worth, width) for worth in value]):
-        return False
-    return list(value) == sorted(set(value))
-
-
 def shows_sets(puzzle, value):
     """Whether a value, of any value, is a list of sets, one for each place, with which no strike is due."""
     if not isinstance(value, list) or len(value) != puzzle.places:
         return False
-    if not all([_is_set(some, puzzle.book.width) for some in value]):
+    if not all([is_set(some, puzzle.book.width) for some in value]):
         return False
     kept = [bits_of(some) for some in value]
     return Net(puzzle).strike(kept, list(range(len(puzzle)))) == []

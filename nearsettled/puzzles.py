@@ -70,7 +70,7 @@ class Book:
         return Book(self.width, [table.renamed(order) for table in self._tables])
 
 
-def _is_use(book, places, value):
+def is_use(book, places, value):
     """Whether a value, of any value, is a row of a puzzle over a book with so many places."""
     if not isinstance(value, tuple) or len(value) != 2 or not is_below(value[0], len(book)):
         return False
@@ -86,7 +86,7 @@ class Puzzle:
         if not isinstance(rows, list):
             raise NoList()
         for number, row in enumerate(rows):
-            if not _is_use(book, places, row):
+            if not is_use(book, places, row):
                 raise BadUse(number)
         self.book = book
         self.places = places
@@ -106,7 +106,7 @@ class Puzzle:
 
     def added(self, table, spots):
         """The puzzle with one more row at its end."""
-        if not _is_use(self.book, self.places, (table, spots)):
+        if not is_use(self.book, self.places, (table, spots)):
             raise BadUse(len(self._rows))
         return self._with(self._rows + [(table, spots)])
 

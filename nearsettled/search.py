@@ -60,7 +60,7 @@ class Search:
         self._uses = []
         self._bits = []
         ways = {}
-        for table, spots in self.net.uses:
+        for table, spots in self.net.uses.values():
             pattern = tuple([spots.index(place) for place in spots])
             if (table, pattern) not in ways:
                 ways[(table, pattern)] = ways_of(self.net.table_rows[table], pattern)
@@ -84,7 +84,7 @@ class Search:
         most = FIRST_STEPS
         result = self._tried(stand, most, None)
         if result is None and self._apart is None:
-            self._apart = apart_order(self.net.uses, self.places)
+            self._apart = apart_order(list(self.net.uses.values()), self.places)
         while result is None:
             # Some puzzles want the places that lie between the others, others those that weigh most: by now they do.
             if self._apart[1] <= DEEPEST:

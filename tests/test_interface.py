@@ -4,6 +4,11 @@ import importlib
 import inspect
 import unittest
 
+from nearsettled.folds import Fold
+from nearsettled.operations import Operation
+from nearsettled.puzzles import Book, Puzzle
+from nearsettled.tables import Table
+
 # A property has no list of arguments, a static method none for its own object. A star stands before an argument that
 # is passed by name alone.
 INTERFACE = {
@@ -52,8 +57,62 @@ INTERFACE = {
         "shows_emptied": ["puzzle", "value", "*choice"],
         "shows_sets": ["puzzle", "value"],
     },
+    "nearsettled.folds": {
+        "sets_of": ["width"],
+        "set_rows": ["table"],
+        "Fold": {
+            "__init__": ["self", "width", "cells"], "cells": property, "__call__": ["self", "some"], "__eq__": None,
+            "renamed": ["self", "order"], "of_meet": ["operation"],
+        },
+        "fold_breaks": ["fold", "table"],
+        "folded": ["book"],
+        "shows_fold": ["book", "value"],
+        "shows_fooled": ["book", "value"],
+        "folds": ["book"],
+        "answered": ["fold", "puzzle"],
+    },
+    "nearsettled.choices": {
+        "kept_choices": ["puzzle", "near"],
+        "choice_strikes": ["puzzle", "near"],
+        "emptied_near": ["puzzle", "near"],
+        "shows_choice_strikes": ["puzzle", "near", "value"],
+        "shows_kept_choices": ["puzzle", "near", "value"],
+    },
+    "nearsettled.agreements": {
+        "agreed": ["book", "near"],
+        "shows_agreement": ["book", "near", "value"],
+        "shows_parted": ["book", "near", "value"],
+        "reach": ["book"],
+    },
+    "nearsettled.going": {
+        "gone_on": ["puzzle", "near", "choice"],
+        "answers_near": ["puzzle", "near"],
+        "dead_ends": ["puzzle", "near"],
+    },
+    "nearsettled.drops": {
+        "sub_books": ["book"],
+        "shows_sub_books": ["book", "value"],
+        "least_drop": ["book"],
+        "shows_drop": ["book", "value"],
+    },
+    "nearsettled.desks": {
+        "Desk": {
+            "__init__": ["self", "book", "places"], "put": ["self", "table", "spots"], "withdraw": ["self", "number"],
+            "__getitem__": None, "__setitem__": None, "__contains__": None, "__len__": ["self"], "mark": ["self"],
+            "back_to": ["self", "number"], "book": property, "places": property, "numbers": property,
+            "puzzle": property, "changed": property, "kept": ["self", "place"], "paper": ["self"],
+            "told_by": ["self", "fold"], "tried": ["self", "rows"], "copy": ["self"],
+        },
+    },
+    "nearsettled.texts": {
+        "show_book": ["book"],
+        "show_puzzle": ["puzzle"],
+        "read_book": ["text"],
+        "read_puzzle": ["text", "book"],
+    },
 }
-STATIC = ["full", "equal", "only", "taking", "by"]
+STATIC = ["full", "equal", "only", "taking", "by", "of_meet"]
+GENERATORS = ["all_tuples", "answers", "folds", "answers_near"]
 
 
 def arguments_of(made):
@@ -83,6 +142,19 @@ class InterfaceTest(unittest.TestCase):
                             self.check_method(made, method, arguments)
                     else:
                         self.assertEqual(arguments_of(made), wanted)
+
+    def test_generators(self):
+        for place, names in INTERFACE.items():
+            for name in names:
+                made = getattr(importlib.import_module(place), name)
+                self.assertEqual(inspect.isgeneratorfunction(made), name in GENERATORS, name)
+
+    def test_attributes_are_set_when_an_object_is_created(self):
+        book = Book(2, [Table(2, 1, [(1,)])])
+        for made, names in ((book[0], ["width", "arity"]), (Operation(2, 1, [0, 1]), ["width", "arity"]),
+                            (book, ["width"]), (Puzzle(book, 1, []), ["book", "places"]), (Fold(2, [0, 0, 1]), ["width"])):
+            for name in names:
+                self.assertIn(name, vars(made))
 
     def test_arguments_by_name_alone_may_be_left_out(self):
         for place, names in INTERFACE.items():
