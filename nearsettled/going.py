@@ -13,9 +13,9 @@ class Going:
         self.guide = PlacesGuide(puzzle) if near == 1 else NearGuide(puzzle, near)
         self.places = puzzle.places
         self.width = puzzle.book.width
-        self.rows = puzzle.rows
+        self.all_rows = puzzle.rows
         self._rows_at = [[] for _ in range(puzzle.places)]
-        for row in self.rows:
+        for row in self.all_rows:
             for place in sorted(set(row[1])):
                 self._rows_at[place].append(row)
         self._tables = [{row: True for row in table.rows} for table in puzzle.book.tables]
@@ -56,7 +56,7 @@ def gone_on(puzzle, near, choice):
     if part is not None:
         return ("struck", part)
     way = going.guide.begun(choice)
-    number = going.broken_among(going.rows, way.chosen)
+    number = going.broken_among(going.all_rows, way.chosen)
     if number is not None:
         return ("broken", number)
     for place in range(puzzle.places):

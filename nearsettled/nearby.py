@@ -148,9 +148,10 @@ class Nearby:
             if self.is_kept(some):
                 self._take(some, why)
                 if len(some) < self.near:
-                    part = ("part", self.as_pairs(some))
+                    # For what the empty choice is struck, each pair alone is.
+                    further = why if some == () else ("part", self.as_pairs(some))
                     for node in nodes_of(self.partners[some]):
-                        waiting.append((joined(some, node), part))
+                        waiting.append((joined(some, node), further))
 
     def as_pairs(self, choice):
         """The tuple of pairs for which a choice stands."""
@@ -177,8 +178,10 @@ class Nearby:
             for node in nodes_of(here):
                 supported = supported | self.going_with(choice, node)
             partners = self.partners[choice]
+            reason = ("place", place)
+            # These choices are kept so far, and none of them is a part of others.
             for node in nodes_of(partners - (partners & supported)):
-                self._strike(joined(choice, node), ("place", place), stop)
+                self._take(joined(choice, node), reason)
 
     def going_with(self, choice, node):
         """The bits of the nodes with which a choice of near - 1 places and a node have all new parts kept.
