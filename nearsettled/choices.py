@@ -9,24 +9,24 @@ def kept_choices(puzzle, near):
     """The ascending list of the choices of at most near places that are kept."""
     check_near(near, puzzle.book.width, 2)
     nearby = Nearby(puzzle, near)
-    nearby.strike(stop=True)
-    return nearby.kept()
+    nearby.strike_all(stop=True)
+    return nearby.all_kept()
 
 
 def choice_strikes(puzzle, near):
     """A list of tuples (choice, reason) of all struck choices, each due behind those ahead."""
     check_near(near, puzzle.book.width, 2)
-    return Nearby(puzzle, near).strike()
+    return Nearby(puzzle, near).strike_all()
 
 
 def emptied_near(puzzle, near):
     """("yes", strikes) with such tuples that strike the empty choice, if it is struck, else ("no", kept choices)."""
     check_near(near, puzzle.book.width, 2)
     nearby = Nearby(puzzle, near)
-    told = nearby.strike(stop=True)
+    told = nearby.strike_all(stop=True)
     if nearby.has_none:
         return ("yes", told)
-    return ("no", nearby.kept())
+    return ("no", nearby.all_kept())
 
 
 def _numbered(puzzle, near, value):

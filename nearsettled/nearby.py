@@ -106,7 +106,7 @@ class Nearby:
             return not self.has_none
         return self.partners[choice[:-1]] >> choice[-1] & 1 == 1
 
-    def strike(self, *, stop=False):
+    def strike_all(self, *, stop=False):
         """The list of tuples (choice, reason) of all struck choices, as pairs, each due behind those ahead.
 
         With stop, this ends as soon as the empty choice is struck.
@@ -193,7 +193,7 @@ class Nearby:
             bits = bits & self.partners[joined(choice[:at] + choice[at + 1:], node)]
         return bits
 
-    def kept(self):
+    def all_kept(self):
         """The ascending list of all kept choices, as pairs."""
         if self.has_none:
             return []

@@ -59,7 +59,7 @@ class NearGuide:
         self._places = puzzle.places
         self._near = near
         self._nearby = Nearby(puzzle, near)
-        self._nearby.strike(stop=True)
+        self._nearby.strike_all(stop=True)
 
     def struck(self, choice):
         """A part of at most near places that is struck, None if there is none."""

@@ -143,6 +143,29 @@ class LanguageTest(unittest.TestCase):
             if isinstance(node.value, str):
                 self.assertNotIn("%", node.value, (path, node.lineno))
 
+    def test_names_that_mean_one_thing(self):
+        for path, tree in self.trees.items():
+            taken = [part.asname or part.name for node in tree.body if isinstance(node, ast.ImportFrom)
+                     for part in node.names]
+            taken += [node.name for node in tree.body if isinstance(node, ast.ClassDef)]
+            for node in ast.walk(tree):
+                if isinstance(node, ast.arg):
+                    self.assertNotIn(node.arg, taken, (path, node.lineno))
+                if isinstance(node, ast.Name) and isinstance(node.ctx, ast.Store):
+                    self.assertNotIn(node.id, taken, (path, node.lineno))
+
+    def test_methods_properties_and_attributes(self):
+        methods, properties = set(), set()
+        for _, node in self.nodes(ast.ClassDef):
+            for part in node.body:
+                if isinstance(part, ast.FunctionDef):
+                    is_property = any(ast.unparse(name) == "property" for name in part.decorator_list)
+                    (properties if is_property else methods).add(part.name)
+        stored = {node.attr for _, node in self.nodes(ast.Attribute) if isinstance(node.ctx, ast.Store)}
+        self.assertEqual((methods & properties, methods & stored), (set(), set()))
+        # The document lists these as attributes of a puzzle and as properties of a desk.
+        self.assertEqual(properties & stored, {"book", "places"})
+
     def test_names(self):
         for path, node in self.nodes(ast.FunctionDef):
             if node.name not in METHODS:
