@@ -3,8 +3,7 @@
 from nearsettled.checks import check_order, check_width, is_below, is_set
 from nearsettled.errors import BadArguments, BadCell, BadLength, NoFold, NoList, NoMeet, Unlike
 from nearsettled.leans import lean
-from nearsettled.looking import bits_of, bits_with_partners, values_of
-from nearsettled.operations import all_tuples
+from nearsettled.looking import values_of
 from nearsettled.places import emptied, shows_sets
 from nearsettled.puzzles import answers, Puzzle, shows_none, solved
 from nearsettled.trees import rows_named
@@ -24,14 +23,32 @@ def set_rows(table):
 
 def numbered_set_rows(table):
     """The ascending list of the set-rows of a table, with the numbers of the sets instead of them."""
-    all_sets = [bits_of(some) for some in sets_of(table.width)]
+    sets = sets_of(table.width)
     rows = table.rows
-    found = []
-    for numbers in all_tuples(len(all_sets), table.arity):
-        kept = tuple([all_sets[number] for number in numbers])
-        if bits_with_partners(rows, kept) == kept:
-            found.append(numbers)
-    return found
+    # By position and number of a set: the rows that have a value of the set there, as bits.
+    within = [[_rows_within(rows, position, some) for some in sets] for position in range(table.arity)]
+    ways = [((), (1 << len(rows)) - 1)]
+    for position in range(table.arity):
+        ways = [(numbers + (number,), left & bits) for numbers, left in ways
+                for number, bits in enumerate(within[position]) if left & bits != 0]
+    # The sets of one value tell whether the rows that are left have each value.
+    single = [[within[position][sets.index((value,))] for value in range(table.width)]
+              for position in range(table.arity)]
+    return [numbers for numbers, left in ways if _have_all(left, [sets[number] for number in numbers], single)]
+
+
+def _rows_within(rows, position, some):
+    """The bits of the numbers of the rows that have a value of a set at a position."""
+    return sum([1 << number for number, row in enumerate(rows) if row[position] in some])
+
+
+def _have_all(left, sets, single):
+    """Whether some of the rows that are left, as bits, has each value of each set at its position."""
+    for position, some in enumerate(sets):
+        for value in some:
+            if left & single[position][value] == 0:
+                return False
+    return True
 
 
 class Fold:
@@ -105,9 +122,12 @@ def fold_breaks(fold, table):
     """None if the fold keeps the table, else a set-row of it for which it gives no row."""
     if fold.width != table.width:
         raise Unlike()
-    for sets in set_rows(table):
-        if tuple([fold(some) for some in sets]) not in table:
-            return sets
+    sets = sets_of(table.width)
+    cells = fold.cells
+    rows = {row: True for row in table.rows}
+    for numbers in numbered_set_rows(table):
+        if tuple([cells[number] for number in numbers]) not in rows:
+            return tuple([sets[number] for number in numbers])
     return None
 
 
