@@ -11,7 +11,7 @@ class Going:
 
     def __init__(self, puzzle, near):
         self.guide = PlacesGuide(puzzle) if near == 1 else NearGuide(puzzle, near)
-        self.places = puzzle.places
+        self.place_count = puzzle.places
         self.width = puzzle.book.width
         self.all_rows = puzzle.rows
         self._rows_at = [[] for _ in range(puzzle.places)]
@@ -78,7 +78,7 @@ def answers_near(puzzle, near):
 
 def _ends(going, way, place):
     """Generate the answers to which one comes on a way that has all places before this one."""
-    if place == going.places:
+    if place == going.place_count:
         yield tuple(way.chosen)
         return
     following = place + 1
@@ -99,7 +99,7 @@ def dead_ends(puzzle, near):
 
 def _add_dead_ends(going, way, place, found):
     """Add to a list, ascending, the dead ends on a way that has all places before this one."""
-    if place < going.places:
+    if place < going.place_count:
         ways = going.ways_on(way, place)
         if ways == []:
             found.append(_as_choice(way.chosen))

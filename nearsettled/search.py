@@ -54,7 +54,7 @@ class Search:
 
     def __init__(self, puzzle):
         self.width = puzzle.book.width
-        self.places = puzzle.places
+        self.place_count = puzzle.places
         self.net = Net(puzzle)
         self._numbers = list(range(len(puzzle)))
         self._uses = []
@@ -84,7 +84,7 @@ class Search:
         most = FIRST_STEPS
         result = self._tried(stand, most, None)
         if result is None and self._apart is None:
-            self._apart = apart_order(list(self.net.uses.values()), self.places)
+            self._apart = apart_order(list(self.net.uses.values()), self.place_count)
         while result is None:
             # Some puzzles want the places that lie between the others, others those that weigh most: by now they do.
             if self._apart[1] <= DEEPEST:
@@ -102,8 +102,8 @@ class Search:
 
     def start_with(self, choice):
         """(where the search stands when this is chosen, None), or (None, the number of a row that is broken)."""
-        left = [all_bits(self.width)] * self.places
-        stand = Stand([None] * self.places, left, [None] * (self.places * self.width))
+        left = [all_bits(self.width)] * self.place_count
+        stand = Stand([None] * self.place_count, left, [None] * (self.place_count * self.width))
         for number in self._numbers:
             self._narrow(stand, number)
         for place, value in choice:
@@ -183,7 +183,7 @@ class Search:
     def _urgent(self, stand):
         """A place where no value is left, or else one where a single value is, if there is such a place."""
         urgent = None
-        for place in range(self.places):
+        for place in range(self.place_count):
             if stand.left[place] == 0:
                 return place
             if urgent is None and stand.chosen[place] is None and is_one(stand.left[place]):
@@ -197,7 +197,7 @@ class Search:
             numbers = self._numbers
         else:
             now = [bits & left for bits, left in zip(kept, stand.left)]
-            numbers = [number for place in range(self.places) if now[place] != kept[place]
+            numbers = [number for place in range(self.place_count) if now[place] != kept[place]
                        for number in self.net.uses_at[place]]
         if 0 not in now:
             told = self.net.strike(now, numbers, stop=True)
@@ -211,7 +211,7 @@ class Search:
             return None
         if kept is None:
             return place_to_split(self.net, stand.chosen, stand.left)
-        open_places = [place for place in range(self.places) if stand.chosen[place] is None]
+        open_places = [place for place in range(self.place_count) if stand.chosen[place] is None]
         for place in open_places:
             if is_one(kept[place]):
                 return place
@@ -229,7 +229,7 @@ class Search:
 
         known is one of these answers, or None if it is not known whether there are any.
         """
-        if place == self.places:
+        if place == self.place_count:
             yield tuple(stand.chosen)
             return
         following = place + 1
@@ -237,7 +237,7 @@ class Search:
             after = stand if stand.chosen[place] is not None else self.chosen_too(stand, place, value)
             if known is not None and known[place] == value:
                 yield from self.answers_from(after, following, known)
-            elif self.places - place <= FEW:
+            elif self.place_count - place <= FEW:
                 yield from self.answers_from(after, following, None)
             else:
                 # Without asking for one answer first, long ways could be gone that lead to none.

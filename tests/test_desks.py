@@ -403,9 +403,13 @@ class CopiesTest(unittest.TestCase):
         self.assertEqual(self.state(self.desk), before)
 
     def test_properties_are_not_set(self):
+        before, book = self.state(self.desk), self.desk.book
         for name in ("book", "places", "numbers", "puzzle", "changed"):
-            with self.assertRaises(AttributeError):
-                setattr(self.desk, name, None)
+            for value in (None, 1, self.desk.book, Puzzle(self.desk.book, 1, [])):
+                with self.assertRaises(AttributeError):
+                    setattr(self.desk, name, value)
+        self.assertEqual((self.state(self.desk), self.desk.places), (before, 2))
+        self.assertIs(self.desk.book, book)
 
 
 if __name__ == "__main__":

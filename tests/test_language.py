@@ -154,17 +154,44 @@ class LanguageTest(unittest.TestCase):
                 if isinstance(node, ast.Name) and isinstance(node.ctx, ast.Store):
                     self.assertNotIn(node.id, taken, (path, node.lineno))
 
-    def test_methods_properties_and_attributes(self):
-        methods, properties = set(), set()
+    def properties(self):
+        """For each class that has a property: its name, and for each of its properties whether it has a setter."""
         for _, node in self.nodes(ast.ClassDef):
+            found = {}
             for part in node.body:
-                if isinstance(part, ast.FunctionDef):
-                    is_property = any(ast.unparse(name) == "property" for name in part.decorator_list)
-                    (properties if is_property else methods).add(part.name)
+                for decorator in getattr(part, "decorator_list", []):
+                    if ast.unparse(decorator) == "property":
+                        found[part.name] = False
+                    elif ast.unparse(decorator) == part.name + ".setter":
+                        self.assertEqual([arg.arg for arg in part.args.args], ["self", "value"])
+                        self.assertIn(part.name, found)
+                        found[part.name] = True
+            if found:
+                yield node.name, found
+
+    def test_methods_properties_and_attributes(self):
+        properties = {name for _, found in self.properties() for name in found}
+        methods = {part.name for _, node in self.nodes(ast.ClassDef) for part in node.body
+                   if isinstance(part, ast.FunctionDef)
+                   and [ast.unparse(name) for name in part.decorator_list] in ([], ["staticmethod"], ["classmethod"])}
         stored = {node.attr for _, node in self.nodes(ast.Attribute) if isinstance(node.ctx, ast.Store)}
         self.assertEqual((methods & properties, methods & stored), (set(), set()))
         # The document lists these as attributes of a puzzle and as properties of a desk.
         self.assertEqual(properties & stored, {"book", "places"})
+
+    def test_properties_that_are_assigned_have_setters(self):
+        without = {name for _, found in self.properties() for name, has_setter in found.items() if not has_setter}
+        self.assertIn("rows", without)
+        for path, node in self.nodes(ast.Attribute):
+            if not isinstance(node.ctx, ast.Load):
+                self.assertNotIn(node.attr, without, (path, node.lineno))
+
+    def test_no_property_is_assigned_in_a_loop(self):
+        properties = {name for _, found in self.properties() for name in found}
+        for path, loop in self.nodes(ast.For, ast.While):
+            for node in ast.walk(loop):
+                if isinstance(node, ast.Attribute) and not isinstance(node.ctx, ast.Load):
+                    self.assertNotIn(node.attr, properties, (path, node.lineno))
 
     def test_names(self):
         for path, node in self.nodes(ast.FunctionDef):
