@@ -29,20 +29,10 @@ class Desk:
         """The book."""
         return self._book
 
-    @book.setter
-    def book(self, value):
-        # A puzzle has an attribute of this name: only with a setter may both be called so. A desk keeps its book.
-        raise AttributeError("the book of a desk is not changed")
-
     @property
     def places(self):
         """The number of places."""
         return self._places
-
-    @places.setter
-    def places(self, value):
-        # As for the book.
-        raise AttributeError("the number of places of a desk is not changed")
 
     @property
     def numbers(self):

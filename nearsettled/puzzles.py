@@ -88,9 +88,20 @@ class Puzzle:
         for number, row in enumerate(rows):
             if not is_use(book, places, row):
                 raise BadUse(number)
-        self.book = book
-        self.places = places
+        self._book = book
+        self._places = places
         self._rows = list(rows)
+
+    # A desk has properties of these names, too: nothing may assign to an attribute called so.
+    @property
+    def book(self):
+        """The book."""
+        return self._book
+
+    @property
+    def places(self):
+        """The number of places."""
+        return self._places
 
     @property
     def rows(self):
@@ -101,12 +112,12 @@ class Puzzle:
         return len(self._rows)
 
     def __eq__(self, other):
-        return (isinstance(other, Puzzle) and self.places == other.places and self._rows == other._rows
-                and self.book == other.book)
+        return (isinstance(other, Puzzle) and self._places == other._places and self._rows == other._rows
+                and self._book == other._book)
 
     def added(self, table, spots):
         """The puzzle with one more row at its end."""
-        if not is_use(self.book, self.places, (table, spots)):
+        if not is_use(self._book, self._places, (table, spots)):
             raise BadUse(len(self._rows))
         return self._with(self._rows + [(table, spots)])
 
@@ -118,7 +129,7 @@ class Puzzle:
 
     def _with(self, rows):
         """The puzzle with other rows, which have been looked over already."""
-        made = Puzzle(self.book, self.places, [])
+        made = Puzzle(self._book, self._places, [])
         made._rows = rows
         return made
 

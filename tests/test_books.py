@@ -157,6 +157,17 @@ class PuzzleTest(unittest.TestCase):
         self.assertEqual((puzzle.book, puzzle.places, puzzle.rows, len(puzzle)), (self.book, 3, rows, 5))
         self.assertIs(type(puzzle.rows), list)
 
+    def test_book_and_places_stay(self):
+        puzzle = Puzzle(self.book, 3, [(0, (0, 1))])
+        for made in (puzzle, puzzle.added(1, (2,)), puzzle.part([]), puzzle.part([0])):
+            self.assertIs(made.book, self.book)
+            self.assertEqual(made.places, 3)
+            for name in ("book", "places", "rows"):
+                with self.assertRaises(AttributeError):
+                    setattr(made, name, Book(3, []))
+            self.assertIs(made.book, self.book)
+            self.assertEqual(made.places, 3)
+
     def test_without_places_and_without_rows(self):
         for places in (0, 1, 59, 60):
             for book in (self.book, Book(3, [])):

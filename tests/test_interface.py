@@ -152,9 +152,13 @@ class InterfaceTest(unittest.TestCase):
     def test_attributes_are_set_when_an_object_is_created(self):
         book = Book(2, [Table(2, 1, [(1,)])])
         for made, names in ((book[0], ["width", "arity"]), (Operation(2, 1, [0, 1]), ["width", "arity"]),
-                            (book, ["width"]), (Puzzle(book, 1, []), ["book", "places"]), (Fold(2, [0, 0, 1]), ["width"])):
+                            (book, ["width"]), (Fold(2, [0, 0, 1]), ["width"])):
             for name in names:
                 self.assertIn(name, vars(made))
+        # Those of a puzzle have the names of properties of a desk, so they are no plain ones.
+        made = Puzzle(book, 1, [])
+        self.assertIs(made.book, book)
+        self.assertEqual(made.places, 1)
 
     def test_arguments_by_name_alone_may_be_left_out(self):
         for place, names in INTERFACE.items():

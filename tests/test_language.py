@@ -154,52 +154,84 @@ class LanguageTest(unittest.TestCase):
                 if isinstance(node, ast.Name) and isinstance(node.ctx, ast.Store):
                     self.assertNotIn(node.id, taken, (path, node.lineno))
 
-    def properties(self):
-        """For each class that has a property: its name, and for each of its properties whether it has a setter."""
-        for _, node in self.nodes(ast.ClassDef):
-            found = {}
+    def getters(self):
+        """Each property of a class, with the path of its file."""
+        for path, node in self.nodes(ast.ClassDef):
             for part in node.body:
-                for decorator in getattr(part, "decorator_list", []):
-                    if ast.unparse(decorator) == "property":
-                        found[part.name] = False
-                    elif ast.unparse(decorator) == part.name + ".setter":
-                        self.assertEqual([arg.arg for arg in part.args.args], ["self", "value"])
-                        self.assertIn(part.name, found)
-                        found[part.name] = True
-            if found:
-                yield node.name, found
+                if [ast.unparse(name) for name in getattr(part, "decorator_list", [])] == ["property"]:
+                    yield path, part
+
+    def made_under_names(self):
+        """Under each name the functions that it may run: functions, what makes objects of a class, and methods."""
+        made = {}
+        for tree in self.trees.values():
+            for node in tree.body:
+                if isinstance(node, ast.FunctionDef):
+                    made.setdefault(node.name, []).append(node)
+                for part in node.body if isinstance(node, ast.ClassDef) else []:
+                    if isinstance(part, ast.FunctionDef):
+                        name = node.name if part.name == "__init__" else "." + part.name
+                        made.setdefault(name, []).append(part)
+        return made
+
+    def run_by(self, first):
+        """The functions and methods that a function may run, by their names alone, itself among them."""
+        made, signs = self.made_under_names(), {ast.Subscript: "getitem", ast.In: "contains", ast.NotIn: "contains",
+                                                ast.Eq: "eq", ast.NotEq: "eq", ast.BitAnd: "and", ast.Mult: "mul"}
+        found = [first]
+        for function in found:
+            for node in ast.walk(function):
+                names = ["__" + signs[type(node)] + "__"] if type(node) in signs else []
+                if isinstance(node, ast.Attribute):
+                    names = [node.attr]
+                names = ["." + name for name in names]
+                if isinstance(node, ast.Name):
+                    names = [node.id] + [".__len__"] * (node.id == "len")
+                found += [other for name in names for other in made.get(name, []) if other not in found]
+        return found
 
     def test_methods_properties_and_attributes(self):
-        properties = {name for _, found in self.properties() for name in found}
+        properties = {node.name for _, node in self.getters()}
         methods = {part.name for _, node in self.nodes(ast.ClassDef) for part in node.body
                    if isinstance(part, ast.FunctionDef)
                    and [ast.unparse(name) for name in part.decorator_list] in ([], ["staticmethod"], ["classmethod"])}
-        stored = {node.attr for _, node in self.nodes(ast.Attribute) if isinstance(node.ctx, ast.Store)}
+        stored = {node.attr for _, node in self.nodes(ast.Attribute) if not isinstance(node.ctx, ast.Load)}
         self.assertEqual((methods & properties, methods & stored), (set(), set()))
-        # The document lists these as attributes of a puzzle and as properties of a desk.
-        self.assertEqual(properties & stored, {"book", "places"})
+        # Neither assigned nor with setters: by its name, what a class assigns would run the setter of another class.
+        self.assertEqual(properties & stored, set())
+        self.assertLessEqual({"book", "places", "puzzle", "rows"}, properties)
 
-    def test_properties_that_are_assigned_have_setters(self):
-        without = {name for _, found in self.properties() for name, has_setter in found.items() if not has_setter}
-        self.assertIn("rows", without)
-        for path, node in self.nodes(ast.Attribute):
-            if not isinstance(node.ctx, ast.Load):
-                self.assertNotIn(node.attr, without, (path, node.lineno))
+    def test_properties_have_no_setters(self):
+        for path, node in self.nodes(ast.FunctionDef):
+            for decorator in node.decorator_list:
+                self.assertIn(ast.unparse(decorator), ["property", "staticmethod", "classmethod"], (path, node.lineno))
 
-    def test_no_property_is_assigned_in_a_loop(self):
-        properties = {name for _, found in self.properties() for name in found}
-        for path, loop in self.nodes(ast.For, ast.While):
-            for node in ast.walk(loop):
-                if isinstance(node, ast.Attribute) and not isinstance(node.ctx, ast.Load):
-                    self.assertNotIn(node.attr, properties, (path, node.lineno))
+    def check_changes_nothing(self, node):
+        """That a function assigns no attribute or item but those of its new object, and calls no methods."""
+        for part in ast.walk(node):
+            place = (node.name, getattr(part, "lineno", None))
+            self.assertNotIsInstance(part, (ast.AugAssign, ast.Delete), place)
+            if isinstance(part, (ast.Attribute, ast.Subscript)) and not isinstance(part.ctx, ast.Load):
+                self.assertEqual((node.name, ast.unparse(part.value)), ("__init__", "self"), place)
+            if isinstance(part, ast.Call) and isinstance(part.func, ast.Attribute):
+                self.assertEqual(ast.unparse(part.func), "super().__init__", place)
+
+    def test_properties_change_nothing(self):
+        for path, getter in self.getters():
+            with self.subTest(path, name=getter.name):
+                for node in self.run_by(getter):
+                    self.check_changes_nothing(node)
+
+    def test_a_property_that_makes_an_object_runs_what_makes_it(self):
+        found = [self.run_by(getter) for _, getter in self.getters() if getter.name == "puzzle"]
+        self.assertEqual(len(found), 1)
+        names = [node.name for node in found[0]]
+        self.assertLessEqual({"__init__", "is_use", "is_between", "__getitem__", "__contains__", "__len__"}, set(names))
 
     def test_names(self):
         for path, node in self.nodes(ast.FunctionDef):
             if node.name not in METHODS:
                 self.assertRegex(node.name, r"\A_?[A-Za-z][A-Za-z0-9_]*\Z", path)
-            for decorator in node.decorator_list:
-                self.assertIn(re.sub(r".*\.", "", ast.unparse(decorator)),
-                              ["property", "setter", "staticmethod", "classmethod"])
         for path, node in self.nodes(ast.Attribute):
             self.assertNotIn(node.attr, ["mro", "elements", "open", "input", "law", "format", "sort"], path)
 
